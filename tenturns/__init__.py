@@ -1,0 +1,1 @@
+"""Tenturns: lessons of few places, waiting rows and cards."""
