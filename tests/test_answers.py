@@ -5,7 +5,7 @@ import unittest
 from copy import deepcopy
 
 from helper import STRANGE
-from tenturns import cards, rows
+from tenturns import cards, club, lines, purse, rows
 
 LESSON = (7, 2, 30)
 BOOK = ((3, "wish", (1,)), (5, "wish", (2, 3)), (8, "leave", 1), (80, "leave", 2))
@@ -23,6 +23,23 @@ INTERFACE = {
         "taken_by_rule": "(cards, comings)", "lost": "(cards, comings)", "shown_by": "(cards, comings, thing)",
         "paper_of": "(cards, comings)", "room_on": "(cards, comings, day)", "first_short": "(cards, comings)",
     },
+    purse: {"Purse": "()"},
+    club: {"Club": "()"},
+    lines: {"club_text": "(club)", "club_read": "(text)"},
+}
+METHODS = {
+    purse.Purse: {
+        "buy": "(self, first, last, turns=10)", "come": "(self, day, many=1)", "miss": "(self, day)", "undo": "(self)",
+        "cards": "(self)", "days": "(self)", "taken": "(self)", "lost": "(self)", "paper": "(self)",
+        "room": "(self, day)", "left": "(self)", "__len__": "(self)", "__eq__": "(self, other)", "__repr__": "(self)",
+    },
+    club.Club: {
+        "lesson": "(self, day, places=4, late=24)", "card": "(self, person, first, last, turns=10)",
+        "wish": "(self, lesson, party, hour=0)", "leave": "(self, lesson, person, hour=0)",
+        "call_off": "(self, lesson)", "undo": "(self)", "standing": "(self, lesson, hour=99)",
+        "comings": "(self, person)", "taken": "(self, person)", "lost": "(self, person)", "losers": "(self)",
+        "__len__": "(self)", "__eq__": "(self, other)", "__repr__": "(self)", "__str__": "(self)", "twin": "(self)",
+    },
 }
 
 
@@ -33,6 +50,11 @@ class TestInterface(unittest.TestCase):
                 one = getattr(module, name)
                 self.assertEqual(str(inspect.signature(one)), handed, name)
                 self.assertEqual(one.__module__, module.__name__, name)
+
+    def test_methods_stand_in_the_class_itself(self):
+        for made, told in METHODS.items():
+            for name, handed in told.items():
+                self.assertEqual(str(inspect.signature(vars(made)[name])), handed, name)
 
     def test_kinds_of_what_is_told(self):
         for told, want in [

@@ -48,6 +48,40 @@ class TestLanguage(unittest.TestCase):
                     self.assertEqual(node.level, 0)
                     self.assertTrue(node.module in LIBRARY or node.module.startswith("tenturns."), (name, node.module))
 
+    def test_no_two_files_import_from_each_other(self):
+        asked = {}
+        for name, tree in self.trees():
+            froms = [node.module for node in ast.walk(tree) if isinstance(node, ast.ImportFrom)]
+            asked[name] = {module.split(".")[1] + ".py" for module in froms if module.startswith("tenturns.")}
+        while asked:
+            free = [name for name in asked if not asked[name] & set(asked)]
+            self.assertTrue(free, asked)
+            for name in free:
+                del asked[name]
+
+    def test_what_is_imported_is_defined_in_that_file(self):
+        trees = {f"tenturns.{name[:-3]}": tree for name, tree in self.trees()}
+        for name, tree in self.trees():
+            for node in tree.body:
+                if isinstance(node, ast.ImportFrom) and node.module in trees:
+                    for alias in node.names:
+                        self.assertIn(alias.name, self.bound(trees[node.module]), name)
+                        self.assertIsNone(alias.asname)
+
+    def bound(self, tree):
+        names = [node.name for node in tree.body if isinstance(node, (ast.FunctionDef, ast.ClassDef))]
+        names.extend(node.targets[0].id for node in tree.body if isinstance(node, ast.Assign))
+        return names
+
+    def test_no_name_is_a_method_and_an_attribute(self):
+        for name, tree in self.trees():
+            for made in [node for node in tree.body if isinstance(node, ast.ClassDef)]:
+                methods = [node.name for node in made.body if isinstance(node, ast.FunctionDef)]
+                self.assertEqual(len(methods), len(set(methods)), name)
+                for node in ast.walk(made):
+                    if isinstance(node, ast.Attribute) and isinstance(node.ctx, ast.Store):
+                        self.assertNotIn(node.attr, methods, name)
+
     def test_no_generator_expressions_and_no_global(self):
         for name, tree in self.trees():
             for node in ast.walk(tree):
