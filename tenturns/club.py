@@ -163,7 +163,7 @@ def _with(rows, at, row):
 
 def _count_off(given):
     """How many lessons are called off."""
-    return len([is_off for _, _, is_off in given if is_off])
+    return len([lesson for lesson, book, is_off in given if is_off])
 
 
 def _count_cards(cards):

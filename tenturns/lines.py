@@ -17,8 +17,7 @@ def club_read(text):
         raise NoText("only a text writes a club")
     club = Club()
     try:
-        for line in text.split("\n")[:-1]:
-            _tell(club, line.split(" "))
+        _tell_lines(club, text.split("\n")[:-1])
     except ClubError:
         raise NoText("a line of the text says nothing that can be told of the club so far") from None
     # The lines were read one by one and loosely; their order, and each sign, must be as the club itself writes them.
@@ -27,7 +26,13 @@ def club_read(text):
     return club.twin()
 
 
-def _tell(club, words):
+def _tell_lines(club, lines):
+    """Tells a club what lines say, one behind the other."""
+    for line in lines:
+        _tell_words(club, line.split(" "))
+
+
+def _tell_words(club, words):
     """Tells a club what the words of one line say, a deed or `off` of the lesson told last."""
     number = len(club) - 1
     if len(words) == 4 and words[0] == "lesson":
